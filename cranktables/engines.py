@@ -51,7 +51,11 @@ def numbers_in(engine):
     return [number_of(column, engine.base()) for column in engine.columns()]
 
 
+def engine_of(base, wheels, numbers):
+    """The engine of this base and so many wheels with these numbers, but for multiples of M."""
+    return Engine(base, [column_of(number, base, wheels) for number in numbers])
+
+
 def engine_with(engine, numbers):
     """An engine of the same base and wheels with these numbers, but for multiples of M."""
-    base, wheels = engine.base(), engine.wheels()
-    return Engine(base, [column_of(number, base, wheels) for number in numbers])
+    return engine_of(engine.base(), engine.wheels(), numbers)

@@ -24,11 +24,16 @@ def check_base(base):
         raise NoBase("a base is a whole number from 2 to 16")
 
 
+def check_wheels(wheels):
+    """Refuse what is no number of wheels that a column can have."""
+    if not is_within(wheels, 1, MOST_WHEELS):
+        raise NoWheels("a column has from 1 to 40 wheels")
+
+
 def column_of(number, base, wheels):
     """The column of so many wheels that differs from the number by a multiple of M."""
     check_base(base)
-    if not is_within(wheels, 1, MOST_WHEELS):
-        raise NoWheels("a column has from 1 to 40 wheels")
+    check_wheels(wheels)
     if not is_whole(number):
         raise NoColumn("a column is made of a whole number")
     figures = []

@@ -21,6 +21,14 @@ def lowest_terms(top, bottom):
     return (top // divisor, bottom // divisor)
 
 
+def over_one_bottom(parts):
+    """The fractions told as a list of tops over one bottom: (tops, bottom)."""
+    common = 1
+    for top, bottom in parts:
+        common = common * bottom // common_divisor(common, bottom)
+    return ([top * (common // bottom) for top, bottom in parts], common)
+
+
 def fraction(top, bottom):
     """The fraction made of two whole numbers, the second not 0."""
     if not is_whole(top) or not is_whole(bottom):

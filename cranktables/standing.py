@@ -3,9 +3,8 @@
 from cranktables.engines import engine_with, numbers_in
 from cranktables.errors import NoTurns
 from cranktables.figures import read_of
-from cranktables.wholes import is_within
+from cranktables.wholes import is_of_thirty_figures, is_within
 
-MOST_AHEAD = 10 ** 30 - 1
 MOST_READINGS = 200
 
 
@@ -28,7 +27,7 @@ def column_sum(numbers, k, m):
 
 def stands(engine, m):
     """The engine as it stands m turns on."""
-    if not is_within(m, -MOST_AHEAD, MOST_AHEAD):
+    if not is_of_thirty_figures(m):
         raise NoTurns("turns are a whole number of at most thirty figures")
     numbers = numbers_in(engine)
     return engine_with(engine, [column_sum(numbers, k, m) for k in range(len(numbers))])

@@ -1,4 +1,6 @@
-"""Whole numbers: what counts as one, and powers of them."""
+"""Whole numbers: what counts as one, rising lists of them, and powers."""
+
+MOST_OF_THIRTY_FIGURES = 10 ** 30 - 1
 
 
 def is_whole(thing):
@@ -9,6 +11,18 @@ def is_whole(thing):
 def is_within(thing, least, most):
     """Whether this is a whole number from least to most, both counted."""
     return is_whole(thing) and least <= thing <= most
+
+
+def is_of_thirty_figures(thing):
+    """Whether this is a whole number of at most thirty figures, above 0 or below."""
+    return is_within(thing, -MOST_OF_THIRTY_FIGURES, MOST_OF_THIRTY_FIGURES)
+
+
+def are_rising(numbers, least, most):
+    """Whether these are whole numbers from least to most, each greater than the one ahead of it."""
+    if not all([is_within(number, least, most) for number in numbers]):
+        return False
+    return all([numbers[k - 1] < numbers[k] for k in range(1, len(numbers))])
 
 
 def power(number, many):

@@ -4,6 +4,7 @@ from math import gcd
 
 from cranktables.errors import NoFraction
 from cranktables.fractions import fraction, is_below, is_fraction, less, over, plus, times
+from tests.makers import pair_of
 from tests.things import NO_WHOLES, Grumpy, Refusing, dice, long_number
 
 RECKONINGS = (plus, less, times, over, is_below)
@@ -14,10 +15,6 @@ NO_FRACTIONS = [thing for thing in NO_WHOLES if thing.__class__ is not tuple] + 
     (1, None), (None, 1), ("1", "2"), ("1", 2), (1, "2"), (1.0, 2), (1, 2.0), ((1, 2), 1), (1, (1, 2)),
     ((1, 2), (1, 2)), ((1, 2),), [(1, 2)], (Grumpy(), 1), (1, Grumpy()), (10 ** 40, 10 ** 41), "12", {1: 2, 2: 1},
 ]
-
-
-def pair_of(told):
-    return (told.numerator, told.denominator)
 
 
 def some_fractions():

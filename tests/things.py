@@ -1,5 +1,6 @@
 """What the tests hand in: things of any kind, numbers of any size, and how they are refused."""
 
+import itertools
 import random
 
 from cranktables.errors import CrankError
@@ -42,3 +43,20 @@ class Refusing:
             function(*handed)
         self.assertIs(type(caught.exception), error)
         return caught.exception
+
+    def refused_in_order(self, function, right, wrong):
+        """Hand in each choice of wrong things for right ones: the first named refusal comes.
+
+        wrong tells, in the order of the interface, (error, place, things) each.
+        """
+        function(*right)
+        for error, place, things in wrong:
+            for thing in things:
+                self.refused(error, function, *right[:place], thing, *right[place + 1:])
+        for size in range(2, len(wrong) + 1):
+            for chosen in itertools.combinations(wrong, size):
+                for several in zip(*(itertools.islice(itertools.cycle(row[2]), 97) for row in chosen)):
+                    handed = list(right)
+                    for (error, place, things), thing in zip(chosen, several):
+                        handed[place] = thing
+                    self.refused(chosen[0][0], function, *handed)
