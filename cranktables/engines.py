@@ -2,7 +2,7 @@
 
 from cranktables.errors import NoColumn, NoColumns
 from cranktables.figures import check_base, column_of, is_column, number_of
-from cranktables.wholes import is_within
+from cranktables.wholes import is_within, power
 
 MOST_COLUMNS = 8
 
@@ -44,6 +44,11 @@ class Engine:
         if not is_within(k, 0, len(self.kept_columns) - 1):
             raise NoColumn("the engine has no column with this number")
         return self.kept_columns[k]
+
+
+def modulus_of(engine):
+    """M: the base to the power of how many wheels a column has."""
+    return power(engine.base(), engine.wheels())
 
 
 def numbers_in(engine):

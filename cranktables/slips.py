@@ -1,6 +1,6 @@
 """Slips: a wheel that goes on by itself, once, and what column 0 is wrong by then."""
 
-from cranktables.engines import engine_with, numbers_in
+from cranktables.engines import engine_with, modulus_of, numbers_in
 from cranktables.errors import NoSlip, NoTurns
 from cranktables.standing import choices, stands
 from cranktables.turning import MOST_TURNS
@@ -61,4 +61,4 @@ def wrong_by(engine, slip, m):
     check_turn(m)
     turn, k, wheel, by = slip
     gain = gained(stands(engine, turn), k, wheel, by)
-    return gain * grown(k, m - turn) % power(engine.base(), engine.wheels())
+    return gain * grown(k, m - turn) % modulus_of(engine)
