@@ -1,6 +1,6 @@
 """Fractions: tuples (top, bottom) in lowest terms, the bottom from 1 on."""
 
-from cranktables.errors import NoFraction
+from cranktables.errors import NoFraction, NoWithin
 from cranktables.wholes import is_whole
 
 
@@ -48,10 +48,22 @@ def is_fraction(thing):
     return common_divisor(top, bottom) == 1
 
 
+def check_fraction(value):
+    """Refuse what is no fraction."""
+    if not is_fraction(value):
+        raise NoFraction("a fraction is a tuple of a top and a bottom from 1 on, in lowest terms")
+
+
 def check_fractions(one, other):
     """Refuse the two unless both are fractions."""
-    if not is_fraction(one) or not is_fraction(other):
-        raise NoFraction("fractions are reckoned with fractions only")
+    check_fraction(one)
+    check_fraction(other)
+
+
+def check_within(within):
+    """Refuse what is no fraction from 0 on."""
+    if not is_fraction(within) or within[0] < 0:
+        raise NoWithin("how far apart things may be is a fraction from 0 on")
 
 
 def plus(one, other):

@@ -48,13 +48,24 @@ def level(table, turns):
     return lowest_terms(abs(total), size * bottom)
 
 
+def apart(one, other):
+    """How far two fractions are apart."""
+    top, bottom = less(one, other)
+    return (abs(top), bottom)
+
+
+def greatest_apart(shown, table):
+    """The greatest by which what is shown and what is wanted are apart, turn by turn."""
+    greatest = NOUGHT
+    for one, other in zip(shown, table):
+        gap = apart(one, other)
+        if is_below(greatest, gap):
+            greatest = gap
+    return greatest
+
+
 def distance(rule, table):
     """The greatest by which a worth of the rule and what is wanted are apart."""
     check_rule(rule)
     check_table(table)
-    greatest = NOUGHT
-    for turn, wanted in enumerate(table):
-        top, bottom = less(worth_at(rule, turn), wanted)
-        if is_below(greatest, (abs(top), bottom)):
-            greatest = (abs(top), bottom)
-    return greatest
+    return greatest_apart([worth_at(rule, turn) for turn in range(len(table))], table)

@@ -42,10 +42,15 @@ def levelled(tops, turns, top, bottom):
     return values[::-1]
 
 
+def greatest_degree(table):
+    """The greatest degree that the table lets."""
+    return min(MOST_DEGREE, len(table) - 1)
+
+
 def nearest(table, degree):
     """The nearest rule of the degree, its distance, and the first turns that show it."""
     check_table(table)
-    if not is_within(degree, 0, min(MOST_DEGREE, len(table) - 1)):
+    if not is_within(degree, 0, greatest_degree(table)):
         raise NoDegree("a degree is from 0 to 4 and less than the table has fractions")
     tops, common = over_one_bottom(table)
     turns, top, bottom = greatest_level(tops, degree + 2)

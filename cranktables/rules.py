@@ -44,13 +44,18 @@ def worth_at(rule, x):
     return lowest_terms(value_at(tops, x), bottom)
 
 
+def differences_in(row):
+    """Each number of the row, but the first, less the one ahead of it."""
+    return [row[k] - row[k - 1] for k in range(1, len(row))]
+
+
 def first_differences(values):
     """The first of the numbers, of their differences, of the differences of these, and so on."""
     firsts = []
     row = values
     while row:
         firsts.append(row[0])
-        row = [row[k] - row[k - 1] for k in range(1, len(row))]
+        row = differences_in(row)
     return firsts
 
 

@@ -49,10 +49,15 @@ def back(engine):
     return engine_with(engine, turn_back(numbers_in(engine)))
 
 
-def turned(engine, m):
-    """The engine behind m turns, or as many back as m is below 0."""
+def check_turns(m):
+    """Refuse what is no number of turns, on or back."""
     if not is_within(m, -MOST_TURNS, MOST_TURNS):
         raise NoTurns("turns are a whole number from -200 to 200")
+
+
+def turned(engine, m):
+    """The engine behind m turns, or as many back as m is below 0."""
+    check_turns(m)
     numbers = numbers_in(engine)
     # Multiples of M change a sum by such a multiple only, so they are left in until the end.
     for turn in range(abs(m)):
